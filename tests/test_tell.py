@@ -259,7 +259,20 @@ class KnownOptions(unittest.TestCase):
         found = line.ask(get(2, options=[(OBSERVE, []), (OBSERVE, [1])]))
         self.assertEqual(found.options, [(ETAG, [1]), (OBSERVE, [1]), (FORM, [9])])
 
-    def test_one_that_comes_again_behind_a_wrong_length_does_not_count(self):
+    def test_one_behind_a_wrong_length_counts(self):
         line = Line()
         line.ask(put(1, "a", [1], options=[(FORM, [1, 2, 3]), (FORM, [8])]))
-        self.assertEqual(line.ask(get(2)).options, [(ETAG, [1]), (FORM, [])])
+        self.assertEqual(line.ask(get(2)).options, [(ETAG, [1]), (FORM, [8])])
+        found = line.ask(get(3, options=[(OBSERVE, [0] * 4), (OBSERVE, [0] * 5), (OBSERVE, [])]))
+        self.assertEqual(found.options, [(ETAG, [1]), (OBSERVE, [1]), (FORM, [8])])
+
+    def test_the_first_of_a_right_length_counts_alone(self):
+        for rows in ([[1, 2, 3], [8], [9]], [[8], [1, 2, 3], [9]], [[1, 2, 3], [8], [1, 2, 3]]):
+            line = Line()
+            line.ask(put(1, "a", [1], options=[(FORM, row) for row in rows]))
+            self.assertEqual(line.ask(get(2)).options, [(ETAG, [1]), (FORM, [8])])
+
+    def test_an_odd_one_of_a_wrong_length_is_strange_whatever_is_behind_it(self):
+        for number, wrong, right in ((5, [1], []), (17, [0] * 3, []), (23, [0] * 4, []), (3, [], [1])):
+            self.assertTrue(self.is_strange([(number, wrong), (number, right)]))
+            self.assertTrue(self.is_strange([(number, right), (number, wrong)]))

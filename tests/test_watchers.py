@@ -321,8 +321,43 @@ class Hearing(unittest.TestCase):
         line = watched()
         number = change(line, 2)[0].number
         hear(line, number)
-        hear(line, number, kind=RST)
+        self.assertEqual(hear(line, number, kind=RST), [])
+        found, = change(line, 3)
+        self.assertEqual((found.who, found.number, found.value(OBSERVE)), (WATCHER, number + 1, 3))
+        # the number that is not heard yet still ends it
+        hear(line, number + 1, kind=RST)
+        self.assertEqual(change(line, 4), [])
+
+    def test_not_understood_by_a_heard_number_while_another_is_not_heard(self):
+        line = watched()
+        hear(line, change(line, 2)[0].number)
+        second, = change(line, 3)
+        hear(line, second.number - 1, kind=RST)
+        self.assertEqual([one.row for one in at(line, 2000)], [second.row])
+
+    def test_heard_twice(self):
+        line = watched()
+        number = change(line, 2)[0].number
+        hear(line, number)
+        hear(line, number)
+        second, = change(line, 3)
+        hear(line, number)
+        self.assertEqual([one.row for one in at(line, 2000)], [second.row])
+
+    def test_not_understood_when_it_had_gone_again(self):
+        line = watched()
+        number = change(line, 2)[0].number
+        at(line, 2000)
+        hear(line, number, now=2000)
+        hear(line, number, kind=RST, now=2000)
+        self.assertEqual(len(change(line, 3, now=2000)), 1)
+
+    def test_not_understood_though_they_want_to_know_again(self):
+        line = watched()
+        number = change(line, 2)[0].number
         self.assertEqual(change(line, 3), [])
+        self.assertEqual(hear(line, number, kind=RST), [])
+        self.assertEqual(at(line, 2000), [])
 
     def test_not_understood_ends_one_watch(self):
         line = watched()

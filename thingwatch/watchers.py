@@ -53,14 +53,15 @@ class Watchers:
             if watcher.path == path:
                 watcher.wants = True
 
-    def sent_by(self, who, number):
+    # What was heard is done with: a number that comes late, behind it, speaks of nothing.
+    def unheard_by(self, who, number):
         for watcher in self.in_order:
-            if watcher.who == who and watcher.number == number:
+            if watcher.who == who and watcher.number == number and not watcher.has_heard:
                 return watcher
         return None
 
     def heard_by(self, who, number):
-        watcher = self.sent_by(who, number)
+        watcher = self.unheard_by(who, number)
         if watcher is None:
             return
         watcher.has_heard = True
@@ -68,6 +69,6 @@ class Watchers:
             self.leave(watcher)
 
     def refused_by(self, who, number):
-        watcher = self.sent_by(who, number)
+        watcher = self.unheard_by(who, number)
         if watcher is not None:
             self.leave(watcher)

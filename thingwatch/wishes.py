@@ -30,13 +30,12 @@ class Wishes:
     def __init__(self, options):
         self.rows = {}
         self.strange = False
-        before = None
         for number, row in options:
-            if is_known(number, len(row), number == before):
+            # One of a wrong length is as unknown, so the next of its number does not come again.
+            if is_known(number, len(row), self.has(number)):
                 self.rows[number] = self.all_of(number) + [row]
             elif number % 2 == 1:
                 self.strange = True
-            before = number
 
     def all_of(self, number):
         return self.rows.get(number, [])
