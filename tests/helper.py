@@ -46,6 +46,10 @@ def datagram(kind, what, number, token=(), options=(), carried=()):
     return row
 
 
+def row_of(where):
+    return list(where.encode()) if isinstance(where, str) else list(where)
+
+
 def path(text):
     return [(PATH, list(word.encode())) for word in text.split("/")] if text else []
 
@@ -121,6 +125,23 @@ class Line:
 
     def tick(self, now):
         self.calls += [3, now]
+
+    def set(self, where, thing=(), form=0, now=0):
+        row = row_of(where)
+        self.calls += [5, form, now, len(row)] + row + [len(thing)] + list(thing)
+        return self.last()
+
+    def get(self, where, most=4096):
+        row = row_of(where)
+        self.calls += [6, most, len(row)] + row
+        return self.last()
+
+    def told(self):
+        """How many things, watchers and datagrams that wait; the next number; how many changes."""
+        self.calls += [7]
+        answer = self.last()
+        assert answer[0] == 0 and len(answer) == 6, answer
+        return answer[1:]
 
     def last(self):
         return split(answers(self.calls))[-1]

@@ -259,6 +259,11 @@ class KnownOptions(unittest.TestCase):
         found = line.ask(get(2, options=[(OBSERVE, []), (OBSERVE, [1])]))
         self.assertEqual(found.options, [(ETAG, [1]), (OBSERVE, [1]), (FORM, [9])])
 
+    def test_an_empty_form_counts_so_the_next_comes_again(self):
+        line = Line()
+        line.ask(put(1, "a", [1], options=[(FORM, []), (FORM, [8])]))
+        self.assertEqual(line.ask(get(2)).options, [(ETAG, [1]), (FORM, [])])
+
     def test_one_behind_a_wrong_length_counts(self):
         line = Line()
         line.ask(put(1, "a", [1], options=[(FORM, [1, 2, 3]), (FORM, [8])]))

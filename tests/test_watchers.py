@@ -88,6 +88,13 @@ class Begins(unittest.TestCase):
         self.assertEqual(found.options, [(ETAG, [1]), (OBSERVE, [1]), (FORM, []), (PIECE, [8])])
         self.assertEqual([one.carried for one in change(line, 2, [2] * 41)], [[2] * 41])
 
+    def test_with_piece_0_of_each_size(self):
+        for value in (1, 6, 8, 8 + 6):
+            line = Line()
+            line.ask(put(1, "a", [1] * 40), CHANGER)
+            self.assertTrue(line.ask(get(1, options=[BEGIN, (PIECE, [value])])).has(OBSERVE))
+            self.assertEqual(len(change(line, 2)), 1)
+
     def test_with_a_later_piece(self):
         line = Line()
         line.ask(put(1, "a", [1] * 40), CHANGER)

@@ -3,7 +3,7 @@
 from thingwatch.lately import Done, Lately
 from thingwatch.replies import news_reply, reply_to
 from thingwatch.rows import NotRight, Reader
-from thingwatch.things import Things
+from thingwatch.things import LARGEST_THING, Things, words_of
 from thingwatch.watchers import Watchers
 from thingwatch.wire import HEARD, NOT_UNDERSTOOD, PLAIN, WANTS_HEARING, Datagram
 from thingwatch.wire import has_head, kind_of, number_of, read_datagram, write_datagram, write_refusal
@@ -12,10 +12,13 @@ from thingwatch.wishes import Wishes
 NUMBERS = 65536
 FIRST_ANSWER_CODE = 32
 MOST_WAITING = 32
-LARGEST_MOST = 2048
+LARGEST_SENT = 2048
+LARGEST_FORM = 65535
+CHANGES_ROUND = 4294967296
 
 NOT_IN_RANGE = -1
 NOT_THERE = -2
+ALL_PLACES_TAKEN = -5
 MORE_THAN_MOST = -6
 
 
@@ -121,7 +124,7 @@ class Machine:
             self.waiting.append((who, row))
 
     def put_out(self, most):
-        if most < 0 or most > LARGEST_MOST:
+        if most < 0 or most > LARGEST_SENT:
             return [NOT_IN_RANGE]
         if len(self.waiting) == 0:
             return [NOT_THERE]
@@ -132,9 +135,39 @@ class Machine:
         self.waiting.pop(0)
         return [len(row)] + row + [who]
 
+    # A refusal comes before catching up: when it is refused, nothing may be forgotten or go again.
+    def set_thing(self, form, now, path, content):
+        if form < 0 or form > LARGEST_FORM:
+            return [NOT_IN_RANGE]
+        if self.things.look_up(path) is None and self.things.is_full():
+            return [ALL_PLACES_TAKEN]
+        self.catch_up(now)
+        self.things.put(path, form, content)
+        self.watchers.path_changed(path)
+        self.tell_news(now)
+        return [0]
+
+    def get_thing(self, most, path):
+        if most < 0 or most > LARGEST_THING:
+            return [NOT_IN_RANGE]
+        thing = self.things.look_up(path)
+        if thing is None:
+            return [NOT_THERE]
+        if len(thing.content) > most:
+            return [MORE_THAN_MOST]
+        return [len(thing.content)] + thing.content + [thing.form]
+
+    def figures(self):
+        changes = self.things.changes % CHANGES_ROUND
+        return [self.things.how_many(), self.watchers.how_many(), len(self.waiting), self.upcoming, changes]
+
 
 def write_reply(kind, number, token, reply):
     return write_datagram(Datagram(kind, reply.code, number, token, reply.options, reply.carried))
+
+
+def take_row(reader):
+    return reader.take(reader.take_one())
 
 
 def call_begin(machine, reader):
@@ -145,8 +178,7 @@ def call_begin(machine, reader):
 def call_take_in(machine, reader):
     who = reader.take_one()
     now = reader.take_one()
-    row = reader.take(reader.take_one())
-    machine.take_in(who, now, row)
+    machine.take_in(who, now, take_row(reader))
     return [0]
 
 
@@ -159,7 +191,23 @@ def call_put_out(machine, reader):
     return machine.put_out(reader.take_one())
 
 
-CALLS = {1: call_begin, 2: call_take_in, 3: call_tick, 4: call_put_out}
+def call_set(machine, reader):
+    form = reader.take_one()
+    now = reader.take_one()
+    path = words_of(take_row(reader))
+    return machine.set_thing(form, now, path, take_row(reader))
+
+
+def call_get(machine, reader):
+    most = reader.take_one()
+    return machine.get_thing(most, words_of(take_row(reader)))
+
+
+def call_told(machine, reader):
+    return [0] + machine.figures()
+
+
+CALLS = {1: call_begin, 2: call_take_in, 3: call_tick, 4: call_put_out, 5: call_set, 6: call_get, 7: call_told}
 
 
 def answers(calls):

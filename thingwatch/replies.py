@@ -1,7 +1,7 @@
 """What is answered to a request, and what watchers are told."""
 
 from thingwatch.rows import short
-from thingwatch.things import is_too_long
+from thingwatch.things import LARGEST_THING, is_too_long
 from thingwatch.wishes import ACCEPT, ETAG, FORM, IF_MATCH, IF_NONE_MATCH, OBSERVE, PIECE
 
 TELL = 1
@@ -22,7 +22,6 @@ CONDITION_FAILED = 140
 TOO_LARGE = 141
 NO_ROOM = 160
 
-LARGEST_THING = 4096
 OBSERVE_ROUND = 16777216
 PIECE_SIZES = (16, 32, 64, 128, 256, 512, 1024)
 LARGEST_PIECE = 1024

@@ -36,6 +36,9 @@ class Watchers:
     def __init__(self):
         self.in_order = []
 
+    def how_many(self):
+        return len(self.in_order)
+
     def stop(self, who, token):
         self.in_order = [watcher for watcher in self.in_order if not watcher.is_by(who, token)]
 
@@ -43,7 +46,7 @@ class Watchers:
         self.stop(watcher.who, watcher.token)
 
     def start(self, who, token, path):
-        if len(self.in_order) >= MOST_WATCHERS:
+        if self.how_many() >= MOST_WATCHERS:
             return False
         self.in_order.append(Watcher(who, token, path))
         return True
